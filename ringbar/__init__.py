@@ -1,0 +1,1 @@
+"""Ringbar: rings and drawers that change one at a time."""
