@@ -1,7 +1,7 @@
 """Bars of rings: their settings, the one row that these lie in, and the ways along it."""
 
 from ringbar.errors import BadBar, BadNumber, BadSetting, NoMove
-from ringbar.whole import is_whole
+from ringbar.kinds import is_tuple, is_whole
 
 MOST_RINGS = 40
 MOST_TOLD = 1000
@@ -9,8 +9,7 @@ MOST_TOLD = 1000
 
 def need_setting(setting):
     """Refuse what is no setting with BadSetting."""
-    # The kind comes first, so that nothing else is asked of a thing that may not answer.
-    if type(setting) != tuple or not 1 <= len(setting) <= MOST_RINGS:
+    if not is_tuple(setting, 1, MOST_RINGS):
         raise BadSetting("a setting is a tuple of a number for each of 1 to 40 rings")
     for cell in setting:
         if not is_whole(cell, 0, 1):
@@ -66,13 +65,21 @@ def way(one, other, most):
     """The rings of the shortest way from one setting to another, the first most of them."""
     _need_alike(one, other)
     need_most(most)
-    return [_ring_into(number) for number in _higher_ends(number_of(one), number_of(other), most)]
+    passed = numbers_passed(number_of(one), number_of(other), most)
+    return [_ring_between(number, beside) for number, beside in zip(passed, passed[1:])]
 
 
 def need_most(most):
     """Refuse with BadNumber what does not say how many steps of a way to tell."""
     if not is_whole(most, 0, MOST_TOLD):
         raise BadNumber("a way is told up to a whole number of steps from 0 to 1000")
+
+
+def numbers_passed(here, there, most):
+    """The numbers from here on towards there, as far as the first most steps lead."""
+    if here < there:
+        return list(range(here, min(there, here + most) + 1))
+    return list(range(here, max(there, here - most) - 1, -1))
 
 
 def _need_alike(one, other):
@@ -82,13 +89,7 @@ def _need_alike(one, other):
         raise BadSetting("the two settings are of unlike many rings")
 
 
-def _higher_ends(here, there, most):
-    """The higher number of each of the first most steps from here to there."""
-    if here < there:
-        return list(range(here + 1, min(there, here + most) + 1))
-    return list(range(here, max(there, here - most), -1))
-
-
-def _ring_into(number):
-    """The ring whose change leads from the number below to this one, or back."""
-    return (number & -number).bit_length() - 1
+def _ring_between(number, beside):
+    """The ring whose change leads from a number to the one beside it."""
+    higher = max(number, beside)
+    return (higher & -higher).bit_length() - 1
